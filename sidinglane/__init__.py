@@ -1,0 +1,1 @@
+"""Sidinglane: trains that pass one another on one lane."""
