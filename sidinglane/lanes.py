@@ -42,8 +42,16 @@ def need_stand(lane, ways, stand):
     """True; BadLane, BadWays or BadStand for the first of the three that is none."""
     need_lane(lane)
     need_ways(ways)
-    if type(stand) is not tuple or len(stand) != len(ways):
-        raise BadStand("a stand is a tuple with a spot for each train")
+    need_spots(lane, stand)
+    if len(stand) != len(ways):
+        raise BadStand("a stand has a spot for each train")
+    return True
+
+
+def need_spots(lane, stand):
+    """True; BadStand where it is no stand of this lane, whatever the ways of its trains are."""
+    if type(stand) is not tuple or not 1 <= len(stand) <= MOST_TRAINS:
+        raise BadStand("a stand is a tuple of 1 to 6 spots")
     if not all([is_spot(lane, spot) for spot in stand]):
         raise BadStand("a spot is a place of the lane, or of a siding, or out")
     if any([stand.count(spot) > most_at(lane, spot) for spot in stand]):

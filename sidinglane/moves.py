@@ -45,17 +45,19 @@ def is_move(thing, trains):
 
 def choices(lane, ways, stand, train):
     """The allowed moves of one train, each with the spot that it leads to, a go ahead of an aside."""
-    if stand[train][0] == "out":
+    found = tries(lane, ways[train], stand[train], train)
+    return [(move, spot) for move, spot in found if has_room(lane, stand, spot)]
+
+
+def tries(lane, way, spot, train):
+    """The moves of one train from a spot, each with the spot that it leads to, be there room or not."""
+    if spot[0] == "out":
         return []
-    word, place = stand[train]
-    ahead = spot_ahead(lane, ways[train], place)
-    aside = ("side", place)
-    found = []
-    if has_room(lane, stand, ahead):
-        found.append((("go" if word == "lane" else "on", train), ahead))
-    if word == "lane" and has_room(lane, stand, aside):
-        found.append((("aside", train), aside))
-    return found
+    word, place = spot
+    ahead = spot_ahead(lane, way, place)
+    if word == "side":
+        return [(("on", train), ahead)]
+    return [(("go", train), ahead), (("aside", train), ("side", place))]
 
 
 def spot_ahead(lane, way, place):

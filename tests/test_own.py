@@ -6,6 +6,9 @@ import unittest
 from sidinglane.errors import LaneError
 from sidinglane.lanes import need_lane, need_stand, need_ways
 from sidinglane.moves import allowed, behind, left_to_go
+from sidinglane.search import closed, least_row, prices, reached
+from sidinglane.turning import turned_lane, turned_stand, turned_ways
+from sidinglane.yard import Yard
 
 LANE = [1, 0, 2, 1]
 WAYS = ["right", "left", "left"]
@@ -22,7 +25,32 @@ CALLS = (
     lambda lane, ways, stand: behind(lane, ways, stand, ("aside", 1)),
     lambda lane, ways, stand: behind(lane, ways, stand, ("on", 2)),
     lambda lane, ways, stand: behind(lane, ways, stand, ("on", 0)),
+    reached,
+    prices,
+    least_row,
+    closed,
+    lambda lane, ways, stand: turned_lane(lane),
+    lambda lane, ways, stand: turned_ways(ways),
+    lambda lane, ways, stand: turned_stand(lane, stand),
+    lambda lane, ways, stand: all_of_a_yard(Yard(lane, ways, stand)),
 )
+
+# A stand from which no row brings all through, and the lists that are told of it and of the one above.
+SHUT = ([0, 0, 0], ["right", "left"], (("lane", 0), ("lane", 2)))
+LISTS = (
+    (allowed, (LANE, WAYS, STAND)), (reached, (LANE, WAYS, STAND)), (prices, (LANE, WAYS, STAND)),
+    (least_row, (LANE, WAYS, STAND)), (closed, SHUT), (turned_lane, (LANE,)), (turned_ways, (WAYS,)),
+)
+
+
+def all_of_a_yard(yard):
+    """What a yard tells, behind some deeds."""
+    yard.longer(1)
+    gained = yard.gained()
+    yard.do(("go", 0))
+    return (
+        gained, yard.gained(), yard.lane(), yard.ways(), yard.stand(), yard.price(), yard.row(), yard.closed(),
+    )
 
 
 def answer(call, *told):
@@ -83,6 +111,39 @@ class HandedIn(unittest.TestCase):
         for call in (need_stand, left_to_go, allowed):
             self.assertEqual(answer(call, lane, ways, stand).__name__, "BadWays")
 
+    def test_a_search_asks_lists_that_change_later_as_they_are_then(self):
+        lane, ways, stand = [0, 0], ["right", "left"], (("lane", 0), ("lane", 1))
+        self.assertEqual(reached(lane, ways, stand), [stand])
+        self.assertEqual(prices(lane, ways, stand), [(stand, None)])
+        self.assertIsNone(least_row(lane, ways, stand))
+        self.assertEqual(closed(lane, ways, stand), [stand])
+        lane[0] = 1
+        self.assertGreater(len(reached(lane, ways, stand)), 1)
+        self.assertEqual(dict(prices(lane, ways, stand))[stand], 5)
+        self.assertEqual(len(least_row(lane, ways, stand)), 5)
+        self.assertIsNone(closed(lane, ways, stand))
+        lane[0] = 0
+        ways.reverse()
+        self.assertEqual(dict(prices(lane, ways, stand))[stand], 2)
+        self.assertEqual(sorted(least_row(lane, ways, stand)), [("go", 0), ("go", 1)])
+        lane[0] = 5
+        ways.append("up")
+        for call in (reached, prices, least_row, closed, Yard):
+            self.assertEqual(answer(call, lane, ways, stand).__name__, "BadLane")
+        lane[0] = 0
+        for call in (reached, prices, least_row, closed, Yard):
+            self.assertEqual(answer(call, lane, ways, stand).__name__, "BadWays")
+
+    def test_lists_that_were_told_stay_when_what_was_handed_in_changes(self):
+        for call, handed in LISTS:
+            told = copy.deepcopy(handed)
+            found = call(*told)
+            before = list(found)
+            for part in told:
+                if type(part) is list:
+                    part.clear()
+            self.assertEqual(found, before)
+
     def test_what_was_told_stays_when_what_was_handed_in_changes(self):
         lane, ways = list(LANE), list(WAYS)
         moves = allowed(lane, ways, STAND)
@@ -105,10 +166,30 @@ class Told(unittest.TestCase):
             self.assertEqual(behind(LANE, WAYS, STAND, ("on", 2)), (("lane", 0), ("lane", 2), ("lane", 1)))
             self.assertEqual(left_to_go(LANE, WAYS, STAND), 10)
 
+    def test_changing_each_list_that_was_told_changes_nothing_told_later(self):
+        for call, handed in LISTS:
+            told = copy.deepcopy(handed)
+            first = call(*told)
+            self.assertIs(type(first), list)
+            before = list(first)
+            for change in (list.clear, list.reverse, list.pop, lambda found: found.append(None)):
+                found = call(*told)
+                self.assertIsNot(found, first)
+                change(found)
+                self.assertEqual(call(*told), before)
+            self.assertEqual((first, told), (before, handed))
+
+    def test_a_turned_list_is_another_one_where_nothing_changes(self):
+        lane = [1, 0, 1]
+        turned_lane(lane).clear()
+        self.assertEqual(lane, [1, 0, 1])
+
     def test_an_empty_list_is_the_askers_own_too(self):
         stand = (("out",),)
         allowed([0], ["right"], stand).append(("go", 0))
         self.assertEqual(allowed([0], ["right"], stand), [])
+        least_row([0], ["right"], stand).append(("go", 0))
+        self.assertEqual(least_row([0], ["right"], stand), [])
 
     def test_each_call_tells_a_list_of_its_own(self):
         moves = allowed(LANE, WAYS, STAND)

@@ -5,6 +5,9 @@ import unittest
 from sidinglane.errors import BadLane, BadStand, BadWays, NoMove
 from sidinglane.lanes import need_lane, need_stand, need_ways
 from sidinglane.moves import allowed, behind, left_to_go
+from sidinglane.search import closed, least_row, prices, reached
+from sidinglane.turning import turned_lane, turned_stand, turned_ways
+from sidinglane.yard import Yard
 from tests.things import Hostile, Liar, any_things
 
 LANE = [0, 1]
@@ -14,8 +17,10 @@ MOVE = ("aside", 1)
 
 BAD_LANES = ([], [0] * 9, [5], [-1, 0], [True], ["1"], (0, 1), None, Hostile(), Liar(list), "01")
 BAD_WAYS = ([], ["right"] * 7, ["up", "left"], ["right", None], ("right", "left"), None, Hostile(), Liar(list), "right")
-BAD_STANDS = (
-    (), (("out",),), (("out",),) * 3, (("lane", 0), ("lane", 0)), (("side", 0), ("out",)), (("lane", 2), ("out",)),
+# Too few trains and too many, for these ways alone.
+OF_OTHER_WAYS = ((("out",),), (("out",),) * 3)
+BAD_STANDS = OF_OTHER_WAYS + (
+    (), (("lane", 0), ("lane", 0)), (("side", 0), ("out",)), (("lane", 2), ("out",)),
     [("lane", 0), ("lane", 1)], (("lane", True), ("out",)), None, Hostile(), Liar(tuple), "ab",
 )
 NO_MOVES = (
@@ -23,7 +28,10 @@ NO_MOVES = (
 )
 
 # Each of them takes a lane, ways and a stand; behind gets a move that is allowed.
-TAKE_THREE = (need_stand, left_to_go, allowed, lambda lane, ways, stand: behind(lane, ways, stand, MOVE))
+TAKE_THREE = (
+    need_stand, left_to_go, allowed, lambda lane, ways, stand: behind(lane, ways, stand, MOVE),
+    reached, prices, least_row, closed, Yard,
+)
 
 
 class Order(unittest.TestCase):
@@ -39,8 +47,20 @@ class Order(unittest.TestCase):
     def test_one_handed_in_by_itself(self):
         for lane in BAD_LANES:
             self.refuses(BadLane, need_lane, lane)
+            self.refuses(BadLane, turned_lane, lane)
         for ways in BAD_WAYS:
             self.refuses(BadWays, need_ways, ways)
+            self.refuses(BadWays, turned_ways, ways)
+
+    def test_a_lane_and_a_stand_without_ways(self):
+        turned_stand(LANE, STAND)
+        stands = BAD_STANDS[len(OF_OTHER_WAYS):]
+        for lane in BAD_LANES:
+            self.refuses(BadLane, turned_stand, lane, STAND)
+        for stand in stands:
+            self.refuses(BadStand, turned_stand, LANE, stand)
+            for lane in BAD_LANES:
+                self.refuses(BadLane, turned_stand, lane, stand)
 
     def test_one_wrong(self):
         for function in TAKE_THREE:
